@@ -1,0 +1,1 @@
+"""Stripmeld: scattered strips of a field brought together by exchanges of neighbours."""
