@@ -16,12 +16,29 @@ class MeldCase(unittest.TestCase):
         return told
 
     def refuse(self, error, function, *handed):
-        """The function must refuse with that very class, and leave the lists as they were."""
+        """The function must refuse with that very class, and leave the lists as they were; the error is told."""
         kept = copy.deepcopy(handed)
         with self.assertRaises(error) as caught:
             function(*handed)
         self.assertIs(caught.exception.__class__, error)
         self.assertEqual(handed, kept)
+        return caught.exception
+
+    def check_kinds(self, told, kind):
+        """A told list must be a list, and each of its members of that very kind."""
+        self.assertIs(told.__class__, list)
+        for member in told:
+            self.assertIs(member.__class__, kind)
+
+
+def pair_by_words(field, ahead, behind):
+    """The pair cost, told as plainly as the document does."""
+    cost = 0
+    for place, (holder, width) in enumerate(field):
+        for left_holder, left_width in field[:place]:
+            if ahead != behind and holder == ahead and left_holder == behind:
+                cost += width * left_width
+    return cost
 
 
 def small_fields(most, holders=(1, 2, 3)):

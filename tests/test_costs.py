@@ -1,20 +1,11 @@
 import itertools
 import unittest
 
-from helper import HUGE, MeldCase, small_fields, wrong_orders
+from helper import HUGE, MeldCase, pair_by_words, small_fields, wrong_orders
 from stripmeld.costs import order_cost, pair_cost
 from stripmeld.errors import BadOrder
 
 FIELD = [(3, 9), (1, 2), (3, 4), (2, 8), (1, 1), (3, 6)]
-
-
-def pair_by_words(field, ahead, behind):
-    cost = 0
-    for place, (holder, width) in enumerate(field):
-        for left_holder, left_width in field[:place]:
-            if ahead != behind and holder == ahead and left_holder == behind:
-                cost += width * left_width
-    return cost
 
 
 class PairCostTest(MeldCase):

@@ -17,6 +17,11 @@ UNUSED_WORDS = re.compile(
     r"\b(type|typing|typing_extensions|enum|Enum|IntEnum|StrEnum|Flag|IntFlag|Generic|Protocol|ABC|ABCMeta|"
     r"namedtuple|NamedTuple|TypedDict|TYPE_CHECKING|abstractmethod)\b|dataclass|overload|contextmanager")
 
+ALLOWED_METHODS = set(
+    "append clear copy count endswith extend find get index insert isalnum isalpha isdigit islower isspace isupper "
+    "items join keys ljust lower lstrip partition pop remove replace reverse rfind rjust rpartition rsplit rstrip "
+    "setdefault split splitlines startswith strip update upper values zfill bit_length".split())
+
 DUNDERS = ("__init__", "__eq__", "__repr__", "__str__", "__len__")
 
 ALLOWED_NODES = (
@@ -126,6 +131,35 @@ class FormTest(unittest.TestCase):
                 self.assertIsInstance(node.ctx, ast.Load, where)
         for node, where in self.each(ast.arg):
             self.assertFalse(hasattr(builtins, node.arg), where)
+
+    def test_methods_are_own_ones_or_of_the_list(self):
+        own = [part.name for node, _ in self.each(ast.ClassDef) for part in node.body
+               if isinstance(part, ast.FunctionDef)]
+        for node, where in self.each(ast.Call):
+            if isinstance(node.func, ast.Attribute):
+                self.assertTrue(node.func.attr in ALLOWED_METHODS or node.func.attr in own, where)
+
+    def test_is_stands_beside_none_true_and_false_alone(self):
+        for node, where in self.each(ast.Compare):
+            if any(isinstance(sign, (ast.Is, ast.IsNot)) for sign in node.ops):
+                plain = [side for side in [node.left] + node.comparators if isinstance(side, ast.Constant)]
+                self.assertTrue(any(side.value in (None, True, False) for side in plain), where)
+
+    def test_numbers_and_texts(self):
+        for node, where in self.each((ast.BinOp, ast.Constant)):
+            if isinstance(node, ast.Constant) and isinstance(node.value, str):
+                self.assertNotIn("%", node.value, where)
+            if isinstance(node, ast.BinOp) and isinstance(node.op, ast.Pow):
+                self.assertIsInstance(node.right, ast.Constant, where)
+                self.assertIn(node.right.value, range(65), where)
+
+    def test_walks_are_not_kept(self):
+        for node, where in self.each(ast.Assign):
+            kept = node.value
+            if isinstance(kept, ast.Call):
+                called = getattr(kept.func, "id", getattr(kept.func, "attr", ""))
+                walks = ("zip", "enumerate", "reversed", "range", "items", "keys", "values", "set", "frozenset")
+                self.assertNotIn(called, walks, where)
 
     def test_each_name_is_bound_once_at_the_top(self):
         for path in package_files():
