@@ -1,10 +1,15 @@
 """What the tests of several files need."""
 
 import copy
+import heapq
 import itertools
 import unittest
 
+from stripmeld.errors import Ringed
+from stripmeld.village import Village
+
 HUGE = 10 ** 5000
+TEN = list(range(1, 11))
 
 
 class MeldCase(unittest.TestCase):
@@ -63,3 +68,78 @@ def wrong_orders(strips):
         wrong.append([])
         wrong.append([holders[0]] * len(holders))
     return wrong
+
+
+def chance_field(chance, holders, most_width):
+    """A field in which each of these holders has a strip."""
+    many = chance.randint(len(holders), 3 * len(holders))
+    chosen = list(holders) + [chance.choice(holders) for _ in range(many - len(holders))]
+    chance.shuffle(chosen)
+    return [(holder, chance.randint(1, most_width)) for holder in chosen]
+
+
+def chance_wishes(chance, most):
+    """Wishes without a ring, of which some have a holder that may have no strips."""
+    hidden = chance.sample(TEN, 10)
+    between = list(itertools.combinations(hidden, 2))
+    return chance.sample(between, chance.randint(0, most))
+
+
+def costs_by_exchanges(field):
+    """The least cost at which exchanges of neighbours lead to each stand, found by trying them out."""
+    own = tuple(range(1, len(field) + 1))
+    least = {}
+    reached = [(0, own)]
+    while reached:
+        cost, stand = heapq.heappop(reached)
+        if stand in least:
+            continue
+        least[stand] = cost
+        for place in range(1, len(stand)):
+            left, right = stand[place - 1], stand[place]
+            further = stand[:place - 1] + (right, left) + stand[place + 1:]
+            heapq.heappush(reached, (cost + field[left - 1][1] * field[right - 1][1], further))
+    return least
+
+
+def is_melded_by_words(field, wishes):
+    """Whether each holder's strips lie side by side and the holders keep the wishes that count."""
+    runs = [holder for holder, _ in itertools.groupby(holder for holder, _ in field)]
+    places = {holder: place for place, holder in enumerate(runs)}
+    counted = [(ahead, behind) for ahead, behind in wishes if ahead in places and behind in places]
+    return len(runs) == len(places) and all(places[ahead] < places[behind] for ahead, behind in counted)
+
+
+def least_by_exchanges(field, wishes):
+    """The least cost of exchanges that bring each holder's strips side by side with the wishes kept."""
+    return min(cost for stand, cost in costs_by_exchanges(field).items()
+               if is_melded_by_words([field[number - 1] for number in stand], wishes))
+
+
+def village_with(strips, wishes):
+    """A village in which these wishes stand, each by a deed of its own."""
+    village = Village(strips)
+    for ahead, behind in wishes:
+        village.wish(ahead, behind)
+    return village
+
+
+def told_of(village):
+    """All that a village tells of itself; where a question is refused, the ring in its place."""
+    told = [village.strips(), village.wishes(), village.deeds(), village.ring()]
+    told += [village.stood(many) for many in range(len(village.deeds()) + 1)]
+    for asked in (village.order, village.cost, village.table, village.moves, village.melded):
+        try:
+            told.append(asked())
+        except Ringed as error:
+            told.append(("ringed", error.members))
+    return told
+
+
+def full_village(strips):
+    """A village in whose book a hundred deeds stand, with the wish (9, 8) put in and dropped in turn."""
+    village = Village(strips)
+    for _ in range(50):
+        village.wish(9, 8)
+        village.drop(9, 8)
+    return village

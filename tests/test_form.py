@@ -22,6 +22,11 @@ ALLOWED_METHODS = set(
     "items join keys ljust lower lstrip partition pop remove replace reverse rfind rjust rpartition rsplit rstrip "
     "setdefault split splitlines startswith strip update upper values zfill bit_length".split())
 
+# The names of Python's own values, but for those that an own method or an own value may have too.
+PYTHONS_OWN = set().union(*(dir(kind) for kind in (str, int, list, tuple, dict, set, frozenset, bytes, bytearray)))
+FREE_FOR_METHODS = ALLOWED_METHODS | {"add", "discard"}
+FREE_FOR_VALUES = set("count index title find get join lower upper split strip copy add".split())
+
 DUNDERS = ("__init__", "__eq__", "__repr__", "__str__", "__len__")
 
 ALLOWED_NODES = (
@@ -50,6 +55,18 @@ def top_names(tree):
         elif isinstance(node, ast.Assign):
             names.extend(target.id for target in node.targets)
     return names
+
+
+def class_names():
+    trees = [parsed(path) for path in package_files()]
+    return [node.name for tree in trees for node in tree.body if isinstance(node, ast.ClassDef)]
+
+
+def is_class_use(above, node):
+    """Whether a class stands there as one may: called, as a base, or by `isinstance` or `except`."""
+    if isinstance(above, ast.Call):
+        return above.func is node or getattr(above.func, "id", "") == "isinstance"
+    return isinstance(above, (ast.ClassDef, ast.ExceptHandler, ast.Raise))
 
 
 def drawn_from(tree):
@@ -138,6 +155,42 @@ class FormTest(unittest.TestCase):
         for node, where in self.each(ast.Call):
             if isinstance(node.func, ast.Attribute):
                 self.assertTrue(node.func.attr in ALLOWED_METHODS or node.func.attr in own, where)
+
+    def test_own_methods_and_values_have_names_of_their_own(self):
+        methods = {part.name for node, _ in self.each(ast.ClassDef) for part in node.body
+                   if isinstance(part, ast.FunctionDef)} - set(DUNDERS)
+        values = {node.attr for node, _ in self.each(ast.Attribute) if isinstance(node.ctx, ast.Store)}
+        self.assertIn("sell", methods)
+        self.assertIn("members", values)
+        self.assertEqual(methods & values, set())
+        self.assertEqual(methods & PYTHONS_OWN - FREE_FOR_METHODS, set())
+        self.assertEqual(values & (PYTHONS_OWN | {"args"}) - FREE_FOR_VALUES, set())
+
+    def test_methods_are_called_where_they_stand(self):
+        called = [node.func for node, _ in self.each(ast.Call)]
+        values = {node.attr for node, _ in self.each(ast.Attribute) if isinstance(node.ctx, ast.Store)}
+        places = {(node.lineno, node.col_offset, node.attr) for node in called if isinstance(node, ast.Attribute)}
+        for node, where in self.each(ast.Attribute):
+            self.assertTrue(node.attr in values or (node.lineno, node.col_offset, node.attr) in places, where)
+
+    def test_classes_are_not_kept(self):
+        names = class_names()
+        for above, where in self.each(ast.AST):
+            for node in ast.iter_child_nodes(above):
+                if isinstance(node, ast.Name) and node.id in names:
+                    self.assertTrue(is_class_use(above, node), where)
+
+    def test_locals_are_not_called_like_an_import_or_a_class(self):
+        for path in package_files():
+            tree = parsed(path)
+            taken = {part.asname or part.name for node in tree.body if isinstance(node, ast.ImportFrom)
+                     for part in node.names}
+            taken |= {node.name for node in tree.body if isinstance(node, ast.ClassDef)}
+            names = {node.arg for node in ast.walk(tree) if isinstance(node, ast.arg)}
+            names |= {node.id for node in ast.walk(tree) if isinstance(node, ast.Name)
+                      and isinstance(node.ctx, ast.Store)}
+            names |= {node.name for node in ast.walk(tree) if isinstance(node, ast.ExceptHandler)}
+            self.assertEqual(taken & names, set(), path.name)
 
     def test_is_stands_beside_none_true_and_false_alone(self):
         for node, where in self.each(ast.Compare):

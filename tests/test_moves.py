@@ -2,14 +2,13 @@ import itertools
 import random
 import unittest
 
-from helper import HUGE, MeldCase, small_fields, wrong_orders
+from helper import HUGE, TEN, MeldCase, small_fields, wrong_orders
 from stripmeld.costs import order_cost
 from stripmeld.errors import BadOrder, NoStrip
 from stripmeld.moves import told_moves, walk_places
 from stripmeld.strips import gathered
 
 FIELD = [(3, 9), (1, 2), (3, 4), (2, 8), (1, 1), (3, 6)]
-TEN = list(range(1, 11))
 TURNED = [(10 - place // 4, 1 + place * 389 % 1000) for place in range(40)]
 
 

@@ -2,14 +2,13 @@ import itertools
 import random
 import unittest
 
-from helper import MeldCase, pair_by_words, small_fields
+from helper import TEN, MeldCase, chance_field, chance_wishes, pair_by_words, small_fields
 from stripmeld.costs import order_cost
 from stripmeld.errors import Ringed
 from stripmeld.strips import gathered
 from stripmeld.table import best_order, cost_table, least_cost
 
 ASKED = (cost_table, best_order, least_cost)
-TEN = list(range(1, 11))
 WIDE = [(1 + place * 7 % 10, 1 + place * 389 % 1000) for place in range(40)]
 TWENTY = [(ahead, behind) for ahead in (1, 2, 3, 4) for behind in (10, 9, 8, 7, 6)]
 
@@ -43,21 +42,6 @@ def table_by_words(field, wishes):
 def best_by_words(field, wishes):
     holders = sorted({holder for holder, _ in field})
     return min(orders_by_words(holders, pairs_by_words(field), wishes))
-
-
-def chance_field(chance, holders, most_width):
-    """A field in which each of these holders has a strip."""
-    many = chance.randint(len(holders), 3 * len(holders))
-    chosen = list(holders) + [chance.choice(holders) for _ in range(many - len(holders))]
-    chance.shuffle(chosen)
-    return [(holder, chance.randint(1, most_width)) for holder in chosen]
-
-
-def chance_wishes(chance, most):
-    """Wishes without a ring, of which some have a holder that may have no strips."""
-    hidden = chance.sample(TEN, 10)
-    between = list(itertools.combinations(hidden, 2))
-    return chance.sample(between, chance.randint(0, most))
 
 
 class TableCase(MeldCase):
